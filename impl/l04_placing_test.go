@@ -44,7 +44,7 @@ func TestSequencesEndWithTheLoop(t *testing.T) {
 func TestKeepBest(t *testing.T) {
 	for _, k := range []struct {
 		what   string
-		values []int // of the nodes 1, 2, ..
+		values []int // of 1, 2, ..
 		want   int
 	}{
 		{"none", nil, 0},
@@ -56,23 +56,25 @@ func TestKeepBest(t *testing.T) {
 		{"equal ones after a smaller one", []int{1, 2, 2}, 2},
 		{"equal ones below 0", []int{-2, -1, -1, -3}, 2},
 	} {
-		offer, best := keepBest()
+		offer, best := keepBest[int]()
 		for at, value := range k.values {
-			offer(Node{Id: at + 1}, value)
+			offer(at+1, value)
 		}
-		if got := best().Id; got != k.want {
-			t.Errorf("the best of %s is %d, want %d", k.what, got, k.want)
+		if got, some := best(); got != k.want || some != (k.want > 0) {
+			t.Errorf("the best of %s is %d, %v, want %d", k.what, got, some, k.want)
 		}
 	}
 }
 
 func TestKeepBestForgetsNothingAndSharesNothing(t *testing.T) {
-	offerOne, one := keepBest()
-	offerTwo, two := keepBest()
-	offerOne(Node{Id: 1}, 5)
-	offerTwo(Node{Id: 2}, 4)
-	offerOne(Node{Id: 3}, 4)
-	if one().Id != 1 || two().Id != 2 {
-		t.Errorf("the best ones are %d and %d, want 1 and 2", one().Id, two().Id)
+	offerOne, one := keepBest[int]()
+	offerTwo, two := keepBest[int]()
+	offerOne(1, 5)
+	offerTwo(2, 4)
+	offerOne(3, 4)
+	first, _ := one()
+	second, _ := two()
+	if first != 1 || second != 2 {
+		t.Errorf("the best ones are %d and %d, want 1 and 2", first, second)
 	}
 }

@@ -154,18 +154,15 @@ func (m *model) preempt(task int) int {
 // each, so that many Scores and priorities are equal.
 func (l luck) crowd(tasks int, nodes int) impl.Cluster {
 	needs := []impl.Res{amounts(0, 0, 0), amounts(1, 0, 0), amounts(1, 1, 1), amounts(1, 2, 1), amounts(2, 1, 1), amounts(3, 2, 0), amounts(4, 4, 1)}
-	caps := []impl.Res{amounts(4, 4, 4), amounts(4, 4, 4), amounts(6, 5, 9), amounts(8, 8, 8), amounts(4, 0, 2), amounts(0, 0, 0)}
 	wants := [][]impl.Lab{nil, nil, nil, nil, {{Key: 1, Val: 2}}, {{Key: 1, Val: 2}, {Key: 3, Val: 0}}}
-	labs := [][]impl.Lab{nil, {{Key: 1, Val: 1}}, {{Key: 1, Val: 2}}, {{Key: 1, Val: 2}, {Key: 3, Val: 0}}}
 	tols := [][]int{nil, {5}, {5}, {5, 6}, {5, 6}}
-	taints := [][]int{nil, nil, nil, {5}, {5, 6}}
 	prios := []int{0, 0, 1, 1, 2, 2, 3, 9}
 	m := newModel()
 	for _, at := range l.Perm(impl.MaxId)[:l.Intn(tasks+1)] {
 		m.addTask(impl.Task{Id: at + 1, Prio: prios[l.Intn(8)], Need: needs[l.Intn(7)], Want: wants[l.Intn(6)], Tols: tols[l.Intn(5)]})
 	}
 	for _, at := range l.Perm(impl.MaxId)[:l.Intn(nodes+1)] {
-		m.addNode(impl.Node{Id: at + 1, Pool: l.Intn(impl.MaxPools), Cap: caps[l.Intn(6)], Labs: labs[l.Intn(4)], Taints: taints[l.Intn(5)]})
+		m.addNode(l.node(at+1, l.Intn(impl.MaxPools)))
 	}
 	ids := slices.Sorted(maps.Keys(m.nodes))
 	for _, t := range m.tasks {
@@ -178,6 +175,13 @@ func (l luck) crowd(tasks int, nodes int) impl.Cluster {
 		m.cordon(id, l.Intn(7) == 0)
 	}
 	return m.cluster()
+}
+
+func (l luck) node(id int, pool int) impl.Node {
+	caps := []impl.Res{amounts(4, 4, 4), amounts(4, 4, 4), amounts(6, 5, 9), amounts(8, 8, 8), amounts(4, 0, 2), amounts(0, 0, 0)}
+	labs := [][]impl.Lab{nil, {{Key: 1, Val: 1}}, {{Key: 1, Val: 2}}, {{Key: 1, Val: 2}, {Key: 3, Val: 0}}}
+	taints := [][]int{nil, nil, nil, {5}, {5, 6}}
+	return impl.Node{Id: id, Pool: pool, Cap: caps[l.Intn(6)], Labs: labs[l.Intn(4)], Taints: taints[l.Intn(5)]}
 }
 
 // crowds returns clusters of all sizes, the same ones in every run.
