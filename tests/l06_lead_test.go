@@ -346,17 +346,23 @@ func invalidStores() []impl.Store {
 	return out
 }
 
+// wantValidity expects a function of that name to accept the valid values only.
+func wantValidity[T any](t *testing.T, name string, accepts func(T) bool, valid []T, invalid []T) {
+	t.Helper()
+	for _, v := range valid {
+		if !accepts(v) {
+			t.Errorf("%s(%+v) is false", name, v)
+		}
+	}
+	for _, v := range invalid {
+		if accepts(v) {
+			t.Errorf("%s(%+v) is true", name, v)
+		}
+	}
+}
+
 func TestStoreOk(t *testing.T) {
-	for _, s := range validStores() {
-		if !impl.StoreOk(s) {
-			t.Errorf("StoreOk(%+v) is false", s)
-		}
-	}
-	for _, s := range invalidStores() {
-		if impl.StoreOk(s) {
-			t.Errorf("StoreOk(%+v) is true", s)
-		}
-	}
+	wantValidity(t, "StoreOk", impl.StoreOk, validStores(), invalidStores())
 	// Each limit alone, in the only item.
 	for _, key := range []int{1, 2, lastKey - 1, lastKey} {
 		for _, val := range []int{0, 1, most} {
